@@ -32,6 +32,15 @@ func isFate(fate int) bool {
 	return fate >= FaDrop && fate <= FaTear
 }
 
+func allFates(fates []int) bool {
+	for _, fate := range fates {
+		if !isFate(fate) {
+			return false
+		}
+	}
+	return true
+}
+
 // The length counts too: applying a longer write would leave an invalid disk.
 func (w Write) valid() bool {
 	return isSector(w.At) && len(w.Data) <= MaxBytes
@@ -96,6 +105,15 @@ func (d Disk) settle(fates []int) Disk {
 	return Disk{Sure: sure}
 }
 
+func (d Disk) content(at int) string {
+	for i := len(d.Cache) - 1; i >= 0; i-- {
+		if d.Cache[i].At == at {
+			return d.Cache[i].Data
+		}
+	}
+	return d.Sure[at]
+}
+
 func NewDisk() Disk {
 	return Disk{Sure: make([]string, Sectors)}
 }
@@ -111,12 +129,7 @@ func ReadDisk(d Disk, at int) (string, int) {
 	if !isSector(at) {
 		return "", ErrRange
 	}
-	for i := len(d.Cache) - 1; i >= 0; i-- {
-		if d.Cache[i].At == at {
-			return d.Cache[i].Data, OK
-		}
-	}
-	return d.Sure[at], OK
+	return d.content(at), OK
 }
 
 func WriteDisk(d Disk, at int, t string) (Disk, int) {
@@ -154,10 +167,8 @@ func CrashDisk(d Disk, fates []int) (Disk, int) {
 	if !d.valid() {
 		return Disk{}, ErrBad
 	}
-	for _, fate := range fates {
-		if !isFate(fate) {
-			return Disk{}, ErrRange
-		}
+	if !allFates(fates) {
+		return Disk{}, ErrRange
 	}
 	return d.settle(fates), OK
 }

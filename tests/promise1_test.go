@@ -2,6 +2,7 @@ package tests
 
 import (
 	"math"
+	"slices"
 	"testing"
 
 	"loop.example/g00563/impl"
@@ -72,12 +73,16 @@ func diskCalls() []diskCall {
 }
 
 func allDisks(t *testing.T) []namedDisk {
-	return append(validDisks(t), invalidDisks()...)
+	return slices.Concat(validDisks(t), shadowDisks(t), invalidDisks())
+}
+
+func allCalls() []diskCall {
+	return append(diskCalls(), shadowCalls()...)
 }
 
 func TestPromise1ArgumentsStay(t *testing.T) {
 	for _, x := range allDisks(t) {
-		for _, c := range diskCalls() {
+		for _, c := range allCalls() {
 			d := spareDisk(x.disk)
 			c.call(d)
 			if !equalDisks(d, x.disk) || !spareIsKept(d) {
@@ -109,7 +114,7 @@ func TestPromise1FatesStay(t *testing.T) {
 
 func TestPromise1ResultsAreNewMemory(t *testing.T) {
 	for _, x := range allDisks(t) {
-		for _, c := range diskCalls() {
+		for _, c := range allCalls() {
 			d := spareDisk(x.disk)
 			got, _ := c.call(d)
 			scribble(got)
@@ -132,9 +137,9 @@ func TestPromise1ResultsAreNewMemory(t *testing.T) {
 
 func TestPromise1EqualCallsEqualResults(t *testing.T) {
 	for _, x := range allDisks(t) {
-		for _, c := range diskCalls() {
+		for _, c := range allCalls() {
 			first, code := c.call(x.disk)
-			for _, other := range diskCalls() {
+			for _, other := range allCalls() {
 				other.call(exampleDisk(t))
 			}
 			again, codeAgain := c.call(spareDisk(x.disk))
