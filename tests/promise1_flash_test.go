@@ -7,23 +7,37 @@ import (
 	"loop.example/g00563/impl"
 )
 
+func markedFlags() []bool {
+	return []bool{true, false, true, true, false}
+}
+
+func spareFlags(list []bool) []bool {
+	return slices.Concat(list, markedFlags())[:len(list)]
+}
+
+func flagsStay(list, want []bool) bool {
+	return slices.Equal(list, want) && slices.Equal(list[len(list):len(list)+5], markedFlags())
+}
+
+func scribbleFlags(list []bool) {
+	list = list[:cap(list)]
+	for i := range list {
+		list[i] = !list[i]
+	}
+}
+
 // spareFlash puts marked elements behind the end of both slices, where a careless append would write.
 func spareFlash(f impl.Flash) impl.Flash {
-	guard := slices.Concat(f.Guard, []bool{true, false, true, true, false})
-	return impl.Flash{Cells: spareNumbers(f.Cells), Guard: guard[:len(f.Guard)], State: f.State}
+	return impl.Flash{Cells: spareNumbers(f.Cells), Guard: spareFlags(f.Guard), State: f.State}
 }
 
 func flashStays(f, want impl.Flash) bool {
-	spare := f.Guard[len(f.Guard) : len(f.Guard)+5]
-	return equalFlashes(f, want) && numbersStay(f.Cells, want.Cells) && slices.Equal(spare, []bool{true, false, true, true, false})
+	return numbersStay(f.Cells, want.Cells) && flagsStay(f.Guard, want.Guard) && f.State == want.State
 }
 
 func scribbleFlash(f impl.Flash) {
 	scribbleNumbers(f.Cells)
-	guard := f.Guard[:cap(f.Guard)]
-	for i := range guard {
-		guard[i] = !guard[i]
-	}
+	scribbleFlags(f.Guard)
 }
 
 func everyFlashCall() []flashCall {
