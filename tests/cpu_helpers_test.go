@@ -152,9 +152,9 @@ func (f intField) of(c impl.Cpu, v int) impl.Cpu {
 	return cpuWith(c, func(c *impl.Cpu) { f.set(c, v) })
 }
 
-// wrong are no values of the field; some would be one if only their last bits counted.
-func (f intField) wrong() []int {
-	return []int{-1, -2, -f.most, -f.most - 1, f.most + 1, f.most + 2, 2*f.most + 1, 2*f.most + 2, 4096, 1 << 16,
+// beyond are no numbers from 0 to most; some would be one if only their last bits counted.
+func beyond(most int) []int {
+	return []int{-1, -2, -most, -most - 1, most + 1, most + 2, 2*most + 1, 2*most + 2, 4096, 1 << 16,
 		1 << 32, 1<<32 + 1, -1 << 32, math.MinInt, math.MinInt + 1, math.MaxInt - 1, math.MaxInt}
 }
 
@@ -193,7 +193,7 @@ func invalidCpus() []namedCpu {
 		list = append(list, namedCpu{fmt.Sprint(n, " registers"), withRegisterCount(n)})
 	}
 	for _, f := range intFields() {
-		for _, v := range f.wrong() {
+		for _, v := range beyond(f.most) {
 			list = append(list, namedCpu{fmt.Sprint(f.name, " ", v), f.of(patternCpu(), v)})
 		}
 	}

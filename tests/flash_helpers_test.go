@@ -93,6 +93,28 @@ func guardCycles(at, v int) []busCycle {
 	return append(unlockCycles(154), busCycle{at, v})
 }
 
+type flashCommand struct {
+	name   string
+	cycles []busCycle
+	want   impl.Flash
+}
+
+// flashCommands have what they leave of a flash that reads, and of which block 2 alone is protected.
+func flashCommands(f impl.Flash) []flashCommand {
+	return []flashCommand{
+		{"program", programCycles(100, 90), withCell(f, 100, f.Cells[100]&90)},
+		{"program a protected byte", programCycles(32, 0), f},
+		{"erase a block", eraseCycles(97, 48), withErased(f, 6)},
+		{"erase a protected block", eraseCycles(47, 48), f},
+		{"erase everything", eraseCycles(85, 16), allErased(f, 0, 0)},
+		{"erase everything elsewhere", eraseCycles(84, 16), f},
+		{"protect", guardCycles(113, 0), withGuard(f, 7)},
+		{"identify", unlockCycles(144), withState(f, impl.StAuto)},
+		{"identify and leave", append(unlockCycles(144), busCycle{0, 240}), f},
+		{"broken", append(unlockCycles(160)[:2], busCycle{100, 0}, busCycle{100, 0}), f},
+	}
+}
+
 func mustCycles(t *testing.T, f impl.Flash, cycles ...busCycle) impl.Flash {
 	t.Helper()
 	for _, c := range cycles {

@@ -120,22 +120,7 @@ func TestBusPutWritesTheFlashAsBusWrite(t *testing.T) {
 
 func TestBusPutCommands(t *testing.T) {
 	m := patternMem(patternFlash(impl.StRead, 2))
-	for _, x := range []struct {
-		name   string
-		cycles []busCycle
-		want   impl.Flash
-	}{
-		{"program", programCycles(100, 90), withCell(m.Flash, 100, m.Flash.Cells[100]&90)},
-		{"program a protected byte", programCycles(32, 0), m.Flash},
-		{"erase a block", eraseCycles(97, 48), withErased(m.Flash, 6)},
-		{"erase a protected block", eraseCycles(47, 48), m.Flash},
-		{"erase everything", eraseCycles(85, 16), allErased(m.Flash, 0, 0)},
-		{"erase everything elsewhere", eraseCycles(84, 16), m.Flash},
-		{"protect", guardCycles(113, 0), withGuard(m.Flash, 7)},
-		{"identify", unlockCycles(144), withState(m.Flash, impl.StAuto)},
-		{"identify and leave", append(unlockCycles(144), busCycle{0, 240}), m.Flash},
-		{"broken", append(unlockCycles(160)[:2], busCycle{100, 0}, busCycle{100, 0}), m.Flash},
-	} {
+	for _, x := range flashCommands(m.Flash) {
 		got := mustPut(t, m, onBus(x.cycles)...)
 		wantMem(t, x.name, got, withMemFlash(m, x.want), impl.OK)
 		for _, at := range []int{512, 515, 612, 767} {

@@ -60,20 +60,7 @@ func storing(cycles []busCycle) []string {
 
 func TestStPerformsWriteCycles(t *testing.T) {
 	f := patternFlash(impl.StRead, 2)
-	for _, x := range []struct {
-		name   string
-		cycles []busCycle
-		want   impl.Flash
-	}{
-		{"program", programCycles(100, 90), withCell(f, 100, f.Cells[100]&90)},
-		{"program a protected byte", programCycles(32, 0), f},
-		{"erase a block", eraseCycles(97, 48), withErased(f, 6)},
-		{"erase a protected block", eraseCycles(47, 48), f},
-		{"erase everything", eraseCycles(85, 16), allErased(f, 0, 0)},
-		{"protect", guardCycles(113, 0), withGuard(f, 7)},
-		{"identify", unlockCycles(144), withState(f, impl.StAuto)},
-		{"identify and leave", append(unlockCycles(144), busCycle{0, 240}), f},
-	} {
+	for _, x := range flashCommands(f) {
 		m := placedLines(t, patternMem(f), 70, storing(x.cycles)...)
 		c, after := wantSteps(t, x.name, cpuAt(70), m, 2*len(x.cycles))
 		wantMem(t, x.name, after, withMemFlash(m, x.want), impl.OK)
